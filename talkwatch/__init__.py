@@ -1,0 +1,1 @@
+"""Talks by locked and sealed messages, and the enemy who joins in."""
