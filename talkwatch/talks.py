@@ -1,29 +1,33 @@
 """Bytes read as terms and talks."""
 
+from talkwatch.refusals import NoTalk, TalkTooLong
+
+# The bytes that terms begin with.
 NAME = 0
+TOGETHER = 1
+LOCKED = 2
+LOCKED_FOR = 3
+OWN_KEY = 5
+SEALED = 6
 UNKNOWN = 7
 # How many terms stand within a term, by the byte it begins with.
 INNER_TERMS = (0, 2, 2, 2, 1, 1, 2, 0)
 
 GETS = 0
+SENDS = 1
+BEGINS = 2
 ENDS = 3
 
 LAST_NAME = 15
 LAST_UNKNOWN = 3
+# Stands where there is no number.
+NOTHING = -1
 
 MOST_BYTES = 512
 MOST_KNOWN = 8
 MOST_PARTS = 4
 MOST_EVENTS = 6
 MOST_SECRETS = 4
-
-
-class TalkTooLong(Exception):
-    pass
-
-
-class NoTalk(Exception):
-    pass
 
 
 # Terms are kept as the bytes that tell them: no term begins another, so equal bytes are equal terms.
@@ -63,15 +67,23 @@ class Reader:
         return tuple(self.numbers[start:self.place])
 
 
-# A name's own byte may look like the beginning of an unknown, so names are stepped over whole.
-def unknowns_of(term):
-    found = {}
+# The bytes that a term and those within it begin with, in order, each with the number behind it.
+# A name's number may look like the beginning of an unknown, so names are stepped over whole.
+def heads_of(term):
+    heads = []
     place = 0
     while place < len(term):
-        if term[place] == UNKNOWN:
-            found[term[place + 1]] = True
-        place = place + (2 if INNER_TERMS[term[place]] == 0 else 1)
-    return sorted(found)
+        if INNER_TERMS[term[place]] == 0:
+            heads.append((term[place], term[place + 1]))
+            place = place + 2
+        else:
+            heads.append((term[place], NOTHING))
+            place = place + 1
+    return heads
+
+
+def unknowns_of(term):
+    return sorted(set([number for head, number in heads_of(term) if head == UNKNOWN]))
 
 
 def take_whole_terms(reader, most):

@@ -3,63 +3,22 @@
 import contextlib
 import inspect
 import io
-import sys
 import unittest
 
 from talkwatch.desk import check
+from tests.helper import (
+    BEGINS, ENDS, GETS, LOCKED, LOCKED_FOR, MARKING_KINDS, OWN_KEY, PAIR, PRINT, SEALED, SENDS, SORTS_OF_ONE,
+    SORTS_OF_TWO, FixedList, around, part, talk, unknown, with_few_calls,
+)
 
 A = [0, 0]
 B = [0, 1]
 KEY = [0, 2]
 
-GETS, SENDS, BEGINS, ENDS = 0, 1, 2, 3
-MARKING_KINDS = (SENDS, BEGINS, ENDS)
-
-PAIR, LOCKED, LOCKED_FOR, PRINT, OWN_KEY, SEALED = 1, 2, 3, 4, 5, 6
-SORTS_OF_ONE = (PRINT, OWN_KEY)
-SORTS_OF_TWO = (PAIR, LOCKED, LOCKED_FOR, SEALED)
-
-
-def unknown(number):
-    return [7, number]
-
-
-def counted(rows):
-    told = [len(rows)]
-    for row in rows:
-        told.extend(row)
-    return told
-
-
-def part(*events):
-    return counted([[kind] + term for kind, term in events])
-
-
-def talk(known=(), parts=(part(),), secrets=()):
-    return counted(known) + counted(parts) + counted(secrets)
-
-
-def around(inner):
-    """Terms that hold the term `inner`, one for each place it can have in another."""
-    terms = [[sort] + inner for sort in SORTS_OF_ONE]
-    terms += [[sort] + inner + A for sort in SORTS_OF_TWO]
-    terms += [[sort] + A + inner for sort in SORTS_OF_TWO]
-    return terms
-
 
 def in_each_place(term):
     """Talks in which `term` stands with the enemy, in an event that gets, and among the secrets."""
     return [talk(known=[term]), talk(parts=[part((GETS, term))]), talk(secrets=[term])]
-
-
-class FixedList(list):
-    """A list that can't be changed, not for a while either."""
-
-    def refuse(self, *args, **kwargs):
-        raise AssertionError("the list handed in was changed")
-
-    __setitem__ = __delitem__ = __iadd__ = __imul__ = refuse
-    append = extend = insert = pop = remove = clear = sort = reverse = refuse
 
 
 class CheckCase(unittest.TestCase):
@@ -300,14 +259,7 @@ class UnknownsInEvents(CheckCase):
 
 class Depth(CheckCase):
     def few_calls(self, numbers, answer):
-        """As answers, where only few calls fit within one another."""
-        limit = sys.getrecursionlimit()
-        sys.setrecursionlimit(len(inspect.stack()) + 80)
-        try:
-            got = check(numbers)
-        finally:
-            sys.setrecursionlimit(limit)
-        self.assertEqual(got, [answer])
+        self.assertEqual(with_few_calls(check, numbers), [answer])
 
     def test_sorts_of_one(self):
         for sort in SORTS_OF_ONE:

@@ -1,6 +1,7 @@
 """The form of the package's files: what of the language rules can be seen by walking the code."""
 
 import ast
+import builtins
 import pathlib
 import re
 import unittest
@@ -30,6 +31,17 @@ WORDS = (
     r"\b(type|typing|typing_extensions|enum|Enum|IntEnum|StrEnum|Flag|IntFlag|Generic|Protocol|ABC|ABCMeta|"
     r"namedtuple|NamedTuple|TypedDict|TYPE_CHECKING|abstractmethod)\b|dataclass|overload|contextmanager"
 )
+UNUSED_NAMES = (
+    "register mro elements open input version_info with_traceback add_note attrgetter breakpoint builtins compile "
+    "copyright credits delattr dir eval exec exit gc getattr globals hasattr help id importlib license locals "
+    "methodcaller os quit setattr super sys type vars format format_map"
+).split()
+KEYWORDS = {
+    "sorted": {"key", "reverse"}, "min": {"key", "default"}, "max": {"key", "default"}, "sum": {"start"},
+    "enumerate": {"start"}, "zip": {"strict"},
+}
+VALUES_ALLOWED = "count index title find get join lower upper split strip copy add".split()
+OWN_OF_PYTHON = {name for kind in (str, int, list, dict, set, bytes) for name in dir(kind)}
 
 
 def bound_names(tree):
@@ -106,6 +118,99 @@ class Form(unittest.TestCase):
             for node in ast.walk(tree):
                 if isinstance(node, ast.Name) and isinstance(node.ctx, ast.Load):
                     self.assertIn(node.id, bound | set(BUILT_IN))
+
+    def test_the_top_of_a_module(self):
+        for path, text, tree in self.each():
+            bound = []
+            for node in tree.body:
+                if isinstance(node, ast.Assign):
+                    ast.literal_eval(node.value)
+                    bound.append(node.targets[0].id)
+                elif isinstance(node, (ast.FunctionDef, ast.ClassDef)):
+                    bound.append(node.name)
+                elif isinstance(node, ast.ImportFrom):
+                    bound.extend(alias.name for alias in node.names)
+                else:
+                    self.assertIsInstance(node, ast.Expr)
+                    self.assertIsInstance(node.value.value, str)
+            self.assertEqual(len(bound), len(set(bound)), path)
+
+    def test_imports_come_from_where_the_name_is_defined(self):
+        defined = {}
+        drawn = {}
+        for path, text, tree in self.each():
+            module = "talkwatch." + path.stem
+            tops = [node for node in tree.body if not isinstance(node, ast.ImportFrom)]
+            defined[module] = bound_names(ast.Module([node for node in tops if not isinstance(node, ast.Expr)], []))
+            drawn[module] = {node.module: node.names for node in tree.body if isinstance(node, ast.ImportFrom)}
+        for module, rows in drawn.items():
+            for source, names in rows.items():
+                self.assertLessEqual({alias.name for alias in names}, defined[source])
+        for module in drawn:
+            reached, waiting = set(), [module]
+            while waiting:
+                for source in drawn[waiting.pop()]:
+                    self.assertNotEqual(source, module)
+                    if source not in reached:
+                        reached.add(source)
+                        waiting.append(source)
+
+    def test_names_that_are_taken(self):
+        for path, text, tree in self.each():
+            classes = {node.name for node in tree.body if isinstance(node, ast.ClassDef)}
+            imports = {alias.name for node in tree.body if isinstance(node, ast.ImportFrom) for alias in node.names}
+            for node in ast.walk(tree):
+                if isinstance(node, ast.arg) or isinstance(node, ast.Name) and isinstance(node.ctx, ast.Store):
+                    bound = node.arg if isinstance(node, ast.arg) else node.id
+                    self.assertNotIn(bound, classes | imports)
+                    self.assertNotIn(bound, dir(builtins))
+                if isinstance(node, (ast.Name, ast.Attribute)):
+                    self.assertNotIn(node.id if isinstance(node, ast.Name) else node.attr, UNUSED_NAMES)
+
+    def test_methods_and_values(self):
+        methods, values = set(), set()
+        for path, text, tree in self.each():
+            for node in ast.walk(tree):
+                if isinstance(node, ast.ClassDef):
+                    own = [inner.name for inner in node.body if isinstance(inner, ast.FunctionDef)]
+                    self.assertEqual(len(own), len(set(own)))
+                    methods |= set(own)
+                if isinstance(node, ast.Attribute) and isinstance(node.ctx, ast.Store):
+                    values.add(node.attr)
+        self.assertEqual(methods & values, set())
+        self.assertEqual((methods - {"__init__"}) & (OWN_OF_PYTHON - set(METHODS) - {"add", "discard"}), set())
+        self.assertEqual(values & (OWN_OF_PYTHON - set(VALUES_ALLOWED)), set())
+
+    def test_small_forms(self):
+        for path, text, tree in self.each():
+            for node in ast.walk(tree):
+                if isinstance(node, ast.Compare):
+                    for operator, side in zip(node.ops, node.comparators):
+                        if isinstance(operator, (ast.Is, ast.IsNot)):
+                            self.assertIn(getattr(side, "value", 0), (None, True, False))
+                if isinstance(node, ast.ListComp):
+                    self.assertEqual(len(node.generators), 1)
+                    self.assertLessEqual(len(node.generators[0].ifs), 1)
+                if isinstance(node, ast.FunctionDef):
+                    self.assertIsNone(node.returns)
+                if isinstance(node, ast.arg):
+                    self.assertIsNone(node.annotation)
+                if isinstance(node, ast.BinOp):
+                    self.assertNotIsInstance(node.op, ast.Pow)
+                if isinstance(node, ast.Constant) and isinstance(node.value, str):
+                    self.assertNotIn("%", node.value)
+
+    def test_calls(self):
+        for path, text, tree in self.each():
+            for node in ast.walk(tree):
+                if isinstance(node, ast.Call) and isinstance(node.func, ast.Name) and node.func.id in BUILT_IN:
+                    self.assertLessEqual({word.arg for word in node.keywords}, KEYWORDS.get(node.func.id, set()))
+                if isinstance(node, ast.Call) and isinstance(node.func, ast.Attribute):
+                    self.assertEqual(node.keywords, [])
+            handed_on = [inner for node in ast.walk(tree) if isinstance(node, ast.Call) for inner in node.args]
+            for node in handed_on:
+                if isinstance(node, ast.Name):
+                    self.assertNotIn(node.id, BUILT_IN)
 
     def test_methods(self):
         own = set()
