@@ -16,3 +16,7 @@ class OutOfBounds(Exception):
 
 class MoreThanMost(Exception):
     pass
+
+
+class NoWay(Exception):
+    pass

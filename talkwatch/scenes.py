@@ -49,6 +49,9 @@ class Position:
         self.chosen = EVERY_CHOICE
         self.knowledge = scene.first_knowledge.copied()
 
+    def is_done(self, part):
+        return self.done[part] == len(self.scene.parts[part])
+
     def coming(self, part):
         return self.scene.parts[part][self.done[part]]
 
