@@ -20,3 +20,7 @@ class MoreThanMost(Exception):
 
 class NoWay(Exception):
     pass
+
+
+class NoTerm(Exception):
+    pass

@@ -62,6 +62,9 @@ class Position:
             return self.knowledge.choices_for(event.term, offered)
         return offered
 
+    def can_know(self, term):
+        return self.knowledge.choices_for(self.scene.terms.put(term, 0), self.chosen) > 0
+
     def do(self, part, chosen):
         event = self.coming(part)
         self.chosen = chosen

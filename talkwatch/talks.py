@@ -1,6 +1,6 @@
 """Bytes read as terms and talks."""
 
-from talkwatch.refusals import NoTalk, TalkTooLong
+from talkwatch.refusals import NoTalk, NoTerm, TalkTooLong
 
 # The bytes that terms begin with.
 NAME = 0
@@ -130,3 +130,15 @@ def read_talk(talk):
     if not reader.at_end():
         raise NoTalk()
     return Talk(known, parts, secrets)
+
+
+# A term that is handed in by itself is refused by itself.
+def read_whole_term(numbers):
+    reader = Reader(numbers)
+    try:
+        term = reader.take_term()
+    except NoTalk:
+        raise NoTerm() from None
+    if not reader.at_end() or len(unknowns_of(term)) > 0:
+        raise NoTerm()
+    return term

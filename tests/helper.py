@@ -303,6 +303,15 @@ class SlowTalk:
             place = end
         return state
 
+    def some_way(self, chance):
+        state, told = self.start, []
+        for turn in range(chance.randrange(12)):
+            found = [(number, step) for number in range(len(self.parts)) for step in self.after(state, number)]
+            if found:
+                number, (chosen, state) = chance.choice(found)
+                told.extend([number, len(chosen)] + list(chosen))
+        return told
+
     def numbers(self, state):
         told = [0]
         for number in range(4):

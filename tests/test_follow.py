@@ -372,21 +372,12 @@ class ByChance(FollowCase):
             chance = random.Random(seed)
             told = Chance(chance).talk()
             slow = SlowTalk(told)
-            way_told = self.changed(chance, self.some_way(chance, slow))
+            way_told = self.changed(chance, slow.some_way(chance))
             state = slow.follow(way_told)
             refused += state is None
             self.answers(told, way_told, [-5] if state is None else slow.numbers(state))
         self.assertGreater(refused, 150)
         self.assertLess(refused, 500)
-
-    def some_way(self, chance, slow):
-        state, told = slow.start, []
-        for turn in range(chance.randrange(12)):
-            found = [(number, step) for number in range(len(slow.parts)) for step in slow.after(state, number)]
-            if found:
-                number, (chosen, state) = chance.choice(found)
-                told.extend([number, len(chosen)] + list(chosen))
-        return told
 
     def changed(self, chance, told):
         if not told or chance.random() < 0.4:
