@@ -63,6 +63,31 @@ class OrdinaryTalks(WayCase):
         self.first_is(WRONG_END, told, (1, 0), (1,), (1,))
         self.first_is(ALL_DONE, told, (0, 0), (0,), (0,), (1, 0), (1,), (1,))
 
+    def test_a_party_that_passes_words_on(self):
+        """The first begins with C, who passes its words on to the second; that ends sure of having talked with it."""
+        def told(named, sessions):
+            parts = []
+            for number in range(sessions):
+                mine, yours = name(3 + 2 * number), name(4 + 2 * number)
+                got = together(mine, Y, X) if named else together(mine, Y)
+                said = together(Y, yours, B) if named else together(Y, yours)
+                parts.append(part((GETS, X), (BEGINS, together(A, X)), (SENDS, locked_for(together(mine, A), X)),
+                                  (GETS, locked_for(got, A)), (SENDS, locked_for(Y, X))))
+                parts.append(part((GETS, locked_for(together(Y, A), B)), (SENDS, locked_for(said, A)),
+                                  (GETS, locked_for(yours, B)), (ENDS, together(A, B))))
+            return talk([A, B, C, own_key(C)], parts, [name(4), name(6)][:sessions])
+
+        passed_on = [(0, 2), (0,), (0,), (1, 3), (1,), (0, 4), (0,)]
+        done = [(0, 1), (0,), (0,), (1, 3), (1,), (0, 4), (0,), (1,), (1,)]
+        again = [(2, 1), (2,), (2,), (3, 5), (3,), (2, 6), (2,), (3,), (3,)]
+        for sessions in (1, 2):
+            self.first_is(SECRET, told(False, sessions), *passed_on)
+            self.first_is(WRONG_END, told(False, sessions), *passed_on, (1,), (1,))
+            self.none(SECRET, told(True, sessions))
+            self.none(WRONG_END, told(True, sessions))
+            for named in (False, True):
+                self.first_is(ALL_DONE, told(named, sessions), *(done + again)[:9 * sessions])
+
     def test_three_parts(self):
         parts = [part((GETS, locked(X, B)), (SENDS, print_of(X))), part((SENDS, locked(C, B))),
                  part((GETS, print_of(C)), (SENDS, D))]
@@ -357,6 +382,15 @@ class WhichComesFirst(WayCase):
         self.first_is(ALL_DONE, talk([B, A], parts), (0, 0), (0,), (1,))
         self.none(ALL_DONE, talk([B], parts))
 
+    def test_the_least_name_decides_which_parts_go_on(self):
+        """Of as many steps there is a way by each of the names 0 and 1, with other parts in it."""
+        gets = part((GETS, X), (SENDS, locked(C, print_of(together(X, own_key(E))))),
+                    (SENDS, print_of(together(B, own_key(E)))))
+        sends = part((SENDS, print_of(together(A, own_key(E)))))
+        self.first_is(SECRET, talk([A, B], [gets, sends], [C]), (0, 0), (0,), (1,))
+        self.first_is(SECRET, talk([B], [gets, sends], [C]), (0, 1), (0,), (0,))
+        self.first_is(SECRET, talk([A, B], [sends, gets], [C]), (0,), (1, 0), (1,))
+
     def test_a_lesser_part_goes_first_as_soon_as_it_can(self):
         parts = [part((GETS, B), (GETS, C)), part((SENDS, A), (SENDS, B), (SENDS, A), (SENDS, C))]
         self.first_is(ALL_DONE, talk([], parts), (1,), (1,), (0,), (1,), (1,), (0,))
@@ -404,6 +438,25 @@ class WrongEnds(WayCase):
         self.first_is(WRONG_END, talk([C, A], [begins, ends]), (0, 0), (0,), (0,), (1,), (1, 2), (1,))
         self.first_is(WRONG_END, talk([A, E], [part((GETS, X), (BEGINS, A), (SENDS, D)), ends]),
                       (0, 0), (0,), (0,), (1,), (1, 3), (1,))
+
+    def test_both_may_stand_for_the_same_names(self):
+        begins = part((GETS, X), (BEGINS, X), (SENDS, locked(D, E)))
+        ends = part((GETS, locked(D, E)), (GETS, X), (ENDS, X))
+        self.none(WRONG_END, talk([A], [begins, ends]))
+        self.none(WRONG_END, talk([name(15)], [begins, ends]))
+        self.first_is(WRONG_END, talk([A, B], [begins, ends]), (0, 0), (0,), (0,), (1,), (1, 1), (1,))
+        self.first_is(WRONG_END, talk([A, B], [ends, begins]), (1, 0), (1,), (1,), (0,), (0, 1), (0,))
+
+    def test_each_name_was_begun_with(self):
+        begins = part((BEGINS, A), (BEGINS, B), (SENDS, locked(D, E)))
+        ends = part((GETS, locked(D, E)), (GETS, X), (ENDS, X))
+        self.none(WRONG_END, talk([A, B], [begins, ends]))
+        self.first_is(WRONG_END, talk([A, B, C], [begins, ends]), (0,), (0,), (0,), (1,), (1, 2), (1,))
+        ends = part((GETS, locked(D, E)), (GETS, together(X, Y)), (ENDS, together(X, Y)))
+        begins = part((BEGINS, together(A, B)), (BEGINS, together(B, A)), (BEGINS, together(A, A)),
+                      (BEGINS, together(B, B)), (SENDS, locked(D, E)))
+        self.none(WRONG_END, talk([A, B], [begins, ends]))
+        self.first_is(WRONG_END, talk([A, B, C], [begins, ends]), *[(0,)] * 5, (1,), (1, 0, 2), (1,))
 
     def test_the_same_term_ended_twice(self):
         begins = part((BEGINS, A), (SENDS, B))
