@@ -19,14 +19,10 @@ def leaf_of(part, unknown):
     return NAMES + part * UNKNOWNS_OF_A_PART + unknown
 
 
-def shift_of(leaf):
-    return (leaf - NAMES) * NAMES
-
-
 def mask_of(choices, leaf):
     if leaf < NAMES:
         return 1 << leaf
-    return (choices >> shift_of(leaf)) & EVERY_NAME
+    return (choices >> ((leaf - NAMES) * NAMES)) & EVERY_NAME
 
 
 def with_mask(choices, leaf, mask):
@@ -34,7 +30,8 @@ def with_mask(choices, leaf, mask):
         return 0
     if leaf < NAMES:
         return choices
-    return (choices & ~(EVERY_NAME << shift_of(leaf))) | (mask << shift_of(leaf))
+    shift = (leaf - NAMES) * NAMES
+    return (choices & ~(EVERY_NAME << shift)) | (mask << shift)
 
 
 def with_name(choices, leaf, name):
@@ -67,4 +64,38 @@ def where_equal(choices, pairs):
         choices = with_mask(with_mask(choices, one, mask), other, mask)
         if choices == 0:
             return 0
+    return choices
+
+
+# For each leaf the one that stands for it and for all those that are equal to it if the two of each pair are.
+def leaves_merged(pairs):
+    merged = list(range(LEAVES))
+    for one, other in pairs:
+        gone = merged[one]
+        kept = merged[other]
+        merged = [kept if leaf == gone else leaf for leaf in merged]
+    return merged
+
+
+# Two leaves don't differ if both stand for one name, and for the same one.
+def may_differ(choices, one, other):
+    mask = mask_of(choices, one)
+    return mask != mask_of(choices, other) or (mask & (mask - 1)) > 0
+
+
+def pairs_that_may_differ(choices, pairs):
+    return [pair for pair in pairs if may_differ(choices, pair[0], pair[1])]
+
+
+# The choices by which not all pairs are equal. That leaves names out only where one pair is left that may differ.
+def where_not_all_equal(choices, pairs):
+    left = pairs_that_may_differ(choices, pairs)
+    if len(left) == 0:
+        return 0
+    if len(left) > 1:
+        return choices
+    for one, other in (left[0], (left[0][1], left[0][0])):
+        names = names_of(choices, one)
+        if len(names) == 1 and other >= NAMES:
+            choices = without_name(choices, other, names[0])
     return choices

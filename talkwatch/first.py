@@ -42,7 +42,7 @@ def is_within(limits, most):
 # The limits of all ways with the fewest steps.
 def least_limits(search):
     scene = search.scene
-    reach = Reach(scene, scene.sizes(), EVERY_CHOICE, True)
+    reach = Reach(scene, scene.sizes(), EVERY_CHOICE, [], True)
     if search.what == SECRET_KNOWN and reach.choices_for_any(scene.secrets) == 0:
         return []
     most = reach.how_far()

@@ -1,19 +1,21 @@
 """What can be known from some terms."""
 
-from talkwatch.choices import in_both, mask_of, names_of, where_equal
+from talkwatch.choices import in_both, mask_of, names_of, pairs_that_may_differ, where_equal
 from talkwatch.talks import LOCKED, LOCKED_FOR, SEALED, TOGETHER
 
 
 # Unknowns are kept as they are; it is asked by which choices of their names a term can be known. Where each stands
 # for one name, the answer is just right. Where some may stand for several, no choice by which the term can be known
 # is missing, but there may be some by which it can't: choices keep each unknown's names by themselves. There are
-# fewer of these where `got` says of an unknown, name by name, by which choices it was got as that name.
+# fewer of these where `got` says of an unknown, name by name, by which choices it was got as that name. And choices
+# by which all pairs of leaves of a row of `ruled_out` are equal needn't be in the answer.
 class Knowledge:
     def __init__(self, terms):
         self.terms = terms
         self.held = {}
         self.alike = {}
         self.got = {}
+        self.ruled_out = []
 
     def copied(self):
         other = Knowledge(self.terms)
@@ -91,12 +93,27 @@ class Knowledge:
     def choices_by_held(self, number, offered, barred):
         choices = 0
         for held in self.alike.get(self.terms.shapes[number], []):
-            pairs = self.terms.pairs_to_equal(number, held)
-            if pairs is not None and (self.terms.leaf_bits[held] & barred) == 0:
-                before = in_both(self.held[held], offered)
-                theirs = [leaf for ours, leaf in pairs]
-                choices = choices | self.as_got(where_equal(before, pairs), before, theirs)
+            choices = choices | self.choices_by_one(number, held, offered, barred)
         return choices
+
+    def choices_by_one(self, number, held, offered, barred):
+        pairs = self.terms.pairs_to_equal(number, held)
+        if pairs is None or (self.terms.leaf_bits[held] & barred) > 0:
+            return 0
+        return self.choices_by_pairs(pairs, in_both(self.held[held], offered))
+
+    def choices_by_pairs(self, pairs, offered):
+        choices = where_equal(offered, pairs)
+        if choices == 0 or self.is_ruled_out(pairs, choices):
+            return 0
+        return self.as_got(choices, offered, [theirs for ours, theirs in pairs])
+
+    def is_ruled_out(self, pairs, choices):
+        for row in self.ruled_out:
+            left = [pair for pair in row if pair not in pairs and (pair[1], pair[0]) not in pairs]
+            if len(pairs_that_may_differ(choices, left)) == 0:
+                return True
+        return False
 
     def choices_by_making(self, number, offered, found):
         needed = self.terms.made_from(number)
@@ -104,3 +121,22 @@ class Knowledge:
         for inner in needed:
             choices = in_both(choices, found[inner])
         return choices
+
+    # Pairs of leaves that are equal by all choices by which the term can be known: those of what it must be put
+    # together from, down to terms that must be the one thing held that they can be.
+    def sure_pairs(self, number, offered, barred):
+        sure = []
+        waiting = [number]
+        while len(waiting) > 0:
+            inner = waiting.pop()
+            alike = self.alike.get(self.terms.shapes[inner], [])
+            fitting = [held for held in alike if self.choices_by_one(inner, held, offered, barred) > 0]
+            if len(fitting) == 0:
+                waiting.extend(self.terms.made_from(inner))
+            elif len(fitting) == 1 and not self.can_be_made(inner, offered, barred):
+                sure.extend(self.terms.pairs_to_equal(inner, fitting[0]))
+        return sure
+
+    def can_be_made(self, number, offered, barred):
+        needed = self.terms.made_from(number)
+        return len(needed) > 0 and min([self.choices_for(inner, offered, barred) for inner in needed]) > 0

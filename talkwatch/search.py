@@ -5,7 +5,8 @@ nothing else. And what can be done at one time can be done at any later one. So 
 (its limit) and which names there must be; an order of the steps is then always found.
 """
 
-from talkwatch.choices import LEAVES, NAMES, in_both, mask_of, names_of, with_name, without_name
+from talkwatch.choices import LEAVES, NAMES, in_both, leaves_merged, names_of, where_not_all_equal, with_name
+from talkwatch.choices import without_name
 from talkwatch.talks import BEGINS, ENDS, GETS, SENDS
 from talkwatch.terms import bits_of
 
@@ -18,12 +19,13 @@ ALL_DONE = 2
 # unknowns may stand for several names, more may be answered than can be done; less so if it's close, but that takes
 # longer.
 class Reach:
-    def __init__(self, scene, limits, offered, is_close):
+    def __init__(self, scene, limits, offered, ruled_out, is_close):
         self.scene = scene
         self.limits = limits
         self.offered = offered
         self.is_close = is_close
         self.knowledge = scene.first_knowledge.copied()
+        self.knowledge.ruled_out = ruled_out
         # For each part the choices behind none of its events, behind the first one, and so on.
         self.rows = [[offered] + [0] * limit for limit in limits]
         while any([self.go_on(part) for part in range(len(limits))]):
@@ -75,6 +77,16 @@ class Reach:
         for row in self.rows:
             choices = in_both(choices, row[len(row) - 1])
         return choices
+
+    # Pairs of leaves that are equal in all ways that do all events within the limits.
+    def sure_pairs(self):
+        sure = []
+        for part, limit in enumerate(self.limits):
+            for place, event in enumerate(self.scene.parts[part][:limit]):
+                if event.kind == GETS:
+                    offered = self.rows[part][place]
+                    sure.extend(self.knowledge.sure_pairs(event.term, offered, bits_of(event.fresh)))
+        return sure
 
     def choices_for_any(self, numbers):
         choices = 0
@@ -138,40 +150,40 @@ class Search:
     def choices_left(self, limits, offered):
         if offered == 0:
             return 0
-        left = self.choices_within(Reach(self.scene, limits, offered, False))
+        ruled_out = self.pairs_ruled_out(limits)
+        left = self.choices_within(Reach(self.scene, limits, offered, ruled_out, False))
         if left > 0 and self.pick(limits, left) is not None:
-            left = self.choices_within(Reach(self.scene, limits, left, True))
+            left = self.choices_within(Reach(self.scene, limits, left, ruled_out, True))
         return left
 
     def choices_within(self, reach):
         choices = reach.choices_to_end()
         if self.what == SECRET_KNOWN:
             return in_both(choices, reach.choices_for_any(self.scene.secrets))
-        if self.what == WRONG_END and not self.may_end_wrong(reach.limits, choices):
-            return 0
+        if self.what == WRONG_END and choices > 0:
+            merged = leaves_merged(reach.sure_pairs())
+            for row in reach.knowledge.ruled_out:
+                left = [pair for pair in row if merged[pair[0]] != merged[pair[1]]]
+                choices = where_not_all_equal(choices, left)
         return choices
 
-    def may_end_wrong(self, limits, choices):
+    # What the part that ended last ended with must not be equal to what another began with.
+    def pairs_ruled_out(self, limits):
+        rows = []
         for part, limit in enumerate(limits):
-            if limit > 0 and self.scene.parts[part][limit - 1].kind == ENDS:
-                return self.may_be_unbegun(limits, choices, part, self.scene.parts[part][limit - 1].term)
-        return False
+            if self.what == WRONG_END and limit > 0 and self.scene.parts[part][limit - 1].kind == ENDS:
+                ended = self.scene.parts[part][limit - 1].term
+                for begun in self.begun_by_others(part, limits):
+                    rows.append(self.scene.terms.pairs_to_equal(ended, begun))
+        return [row for row in rows if row is not None]
 
-    def may_be_unbegun(self, limits, choices, part, term):
+    def begun_by_others(self, part, limits):
+        terms = []
         for other, limit in enumerate(limits):
-            for event in self.scene.parts[other][:limit]:
-                if other != part and event.kind == BEGINS and self.must_be_equal(term, event.term, choices):
-                    return False
-        return True
-
-    def must_be_equal(self, one, other, choices):
-        pairs = self.scene.terms.pairs_to_equal(one, other)
-        if pairs is None:
-            return False
-        for ours, theirs in pairs:
-            if mask_of(choices, ours) != mask_of(choices, theirs) or len(names_of(choices, ours)) > 1:
-                return False
-        return True
+            if other != part:
+                events = self.scene.parts[other][:limit]
+                terms.extend([event.term for event in events if event.kind == BEGINS])
+        return terms
 
     # An unknown for which a name failed last goes first, so that those that have no bearing on that are left alone.
     def pick(self, limits, choices):

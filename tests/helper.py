@@ -383,3 +383,31 @@ class Chance:
         if self.random.random() < 0.5:
             return self.term(self.random.choice((0, 0, 1)))
         return self.random.choice(sorted(inner_terms(self.random.choice(pool))))
+
+    # Talks in which parts pass names on to one another, and begin and end with them.
+
+    def row(self, make):
+        terms = [make() for number in range(self.random.choice((1, 1, 2)))]
+        return together(*[tell_term(term) for term in terms])
+
+    def passing_part(self, unknowns, keys):
+        events = []
+        got = []
+        for place in range(self.random.randrange(2, 6)):
+            kind = self.random.choice((GETS, GETS, GETS, SENDS, SENDS, BEGINS, ENDS))
+            wanted = unknowns if kind == GETS else got
+            told = self.row(lambda: self.blurred((NAME, self.random.randrange(2)), wanted, 0.9))
+            if kind == SENDS or kind == GETS and self.random.random() < 0.6:
+                told = locked(told, self.random.choice(keys))
+            if kind == GETS:
+                got = sorted(set(got) | set(unknowns_in(read_term(told, 0)[0])))
+            events.append([kind] + told)
+        return counted(events)
+
+    def passing_talk(self):
+        keys = [own_key(name(8)), own_key(name(9)), name(10)]
+        unknowns = list(range(self.random.choice((1, 2, 3))))
+        parts = [self.passing_part(unknowns, keys) for number in range(self.random.choice((2, 3, 3)))]
+        if self.random.random() < 0.4:
+            parts.append(parts[0])
+        return talk([name(number) for number in (0, 1) if self.random.random() < 0.8], parts)

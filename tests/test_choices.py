@@ -3,7 +3,8 @@
 import unittest
 
 from talkwatch.choices import (
-    EVERY_CHOICE, LEAVES, NAMES, in_both, leaf_of, mask_of, names_of, where_equal, with_mask, with_name, without_name,
+    EVERY_CHOICE, LEAVES, NAMES, in_both, leaf_of, leaves_merged, mask_of, names_of, pairs_that_may_differ, where_equal,
+    where_not_all_equal, with_mask, with_name, without_name,
 )
 
 UNKNOWNS = range(NAMES, LEAVES)
@@ -63,6 +64,29 @@ class Choices(unittest.TestCase):
         self.assertEqual(where_equal(some, [(16, 3)]), 0)
         self.assertEqual(where_equal(some, [(16, 31), (31, 3)]), 0)
         self.assertEqual(where_equal(0, [(16, 31)]), 0)
+
+    def test_pairs_that_may_differ(self):
+        some = with_name(with_name(with_name(with_mask(EVERY_CHOICE, 16, 0b0110), 17, 2), 18, 2), 19, 3)
+        pairs = [(16, 17), (17, 18), (17, 19), (2, 18), (3, 18), (19, 3), (16, 16), (20, 21)]
+        self.assertEqual(pairs_that_may_differ(some, pairs), [(16, 17), (17, 19), (3, 18), (16, 16), (20, 21)])
+
+    def test_where_not_all_equal(self):
+        some = with_name(with_name(with_mask(EVERY_CHOICE, 16, 0b0110), 17, 2), 18, 2)
+        self.assertEqual(where_not_all_equal(some, []), 0)
+        self.assertEqual(where_not_all_equal(some, [(17, 18), (18, 2)]), 0)
+        for pair in ((16, 17), (17, 16), (16, 2), (2, 16)):
+            self.assertEqual(where_not_all_equal(some, [pair, (17, 18)]), with_name(some, 16, 1))
+        self.assertEqual(where_not_all_equal(some, [(16, 17), (20, 17)]), some)
+        self.assertEqual(where_not_all_equal(some, [(16, 20)]), some)
+        self.assertEqual(where_not_all_equal(some, [(17, 3)]), some)
+
+    def test_leaves_merged(self):
+        merged = leaves_merged([(16, 20), (24, 20), (30, 31), (2, 30), (17, 17)])
+        self.assertEqual(len(merged), LEAVES)
+        self.assertEqual(len({merged[16], merged[20], merged[24]}), 1)
+        self.assertEqual(len({merged[30], merged[31], merged[2]}), 1)
+        self.assertEqual(len(set(merged)), LEAVES - 4)
+        self.assertEqual(leaves_merged([]), list(range(LEAVES)))
 
 
 if __name__ == "__main__":

@@ -447,6 +447,17 @@ class WrongEnds(WayCase):
         self.first_is(WRONG_END, talk([A, B], [begins, ends]), (0, 0), (0,), (0,), (1,), (1, 1), (1,))
         self.first_is(WRONG_END, talk([A, B], [ends, begins]), (1, 0), (1,), (1,), (0,), (0, 1), (0,))
 
+    def test_what_another_said_could_also_be_put_together(self):
+        begins = part((GETS, X), (BEGINS, X), (SENDS, locked(X, C)), (SENDS, locked(D, E)))
+        ends = part((GETS, locked(D, E)), (GETS, locked(X, C)), (ENDS, X))
+        self.first_is(WRONG_END, talk([A, B, C], [begins, ends]), (0, 0), (0,), (0,), (0,), (1,), (1, 1), (1,))
+        self.none(WRONG_END, talk([A, B], [begins, ends]))
+        both = together(X, Y)
+        begins = part((GETS, both), (BEGINS, both), (SENDS, locked(X, C)), (SENDS, locked(Y, own_key(E))))
+        ends = part((GETS, locked(Y, own_key(E))), (GETS, locked(X, C)), (ENDS, both))
+        self.first_is(WRONG_END, talk([A, B, C], [begins, ends]), (0, 0, 0), (0,), (0,), (0,), (1, 0), (1, 1), (1,))
+        self.none(WRONG_END, talk([A, B], [begins, ends]))
+
     def test_each_name_was_begun_with(self):
         begins = part((BEGINS, A), (BEGINS, B), (SENDS, locked(D, E)))
         ends = part((GETS, locked(D, E)), (GETS, X), (ENDS, X))
@@ -622,6 +633,28 @@ class AsManyAsMayBe(WayCase):
         told = talk(known, [says_again] * 3 + [fourth], [name(6)])
         self.first_is(SECRET, told, (3, 0), (3,), (3, 0, 6), (3,))
 
+    def test_ends_with_what_another_said(self):
+        """What the last ends with was said by one of the others, who all began with it, whatever the names."""
+        four = together(X, Y, Z, W)
+        begins = part((GETS, four), (BEGINS, four), (SENDS, locked(four, own_key(E))), (SENDS, locked(D, own_key(E))))
+        ends = part((GETS, locked(D, own_key(E))), (GETS, locked(four, own_key(E))), (ENDS, four))
+        self.none(WRONG_END, talk(self.every_name, [begins] * 3 + [ends]))
+        passes_on = part((GETS, locked(four, own_key(E))), (SENDS, locked(four, own_key(D))))
+        ends = part((GETS, locked(together(W, Z, Y, X), own_key(D))), (ENDS, together(W, Z, Y, X)))
+        self.none(WRONG_END, talk(self.every_name, [begins, passes_on, ends, ends]))
+        ends = part((GETS, locked(four, own_key(D))), (ENDS, together(W, Z, Y, X)))
+        self.first_is(WRONG_END, talk(self.every_name, [begins, passes_on, ends, ends]),
+                      (0, 0, 0, 0, 1), (0,), (0,), (1, 0, 0, 0, 1), (1,), (2, 0, 0, 0, 1), (2,))
+
+    def test_ends_with_what_two_others_said(self):
+        begins = part((GETS, together(X, Y, Z, W)), (BEGINS, together(X, Y, Z, W)),
+                      (SENDS, locked(together(X, Y), own_key(E))), (SENDS, locked(together(Z, W), own_key(D))))
+        ends = part((GETS, locked(together(X, Y), own_key(E))), (GETS, locked(together(Z, W), own_key(D))),
+                    (ENDS, together(X, Y, Z, W)))
+        self.none(WRONG_END, talk(self.every_name, [begins, ends, ends, ends]))
+        self.first_is(WRONG_END, talk(self.every_name, [begins, begins, ends, ends]),
+                      (0, 0, 0, 0, 0), (0,), (0,), (0,), (1, 0, 1, 0, 1), (1,), (1,), (2, 0, 1), (2, 0, 0), (2,))
+
     def test_one_key_from_each_part(self):
         def told(keys):
             known = [together(*[name(number) for number in range(5)]),
@@ -693,21 +726,31 @@ class HandedIn(WayCase):
 
 
 class ByChance(WayCase):
-    def test_as_the_slow_and_plain_reading_says(self):
-        answers = set()
-        for seed in range(700):
-            told = Chance(random.Random(seed)).talk()
-            if len(told) > 512:
-                continue
-            for what in EACH:
-                try:
-                    answer = SlowTalk(told).way(what)
-                except TooMany:
-                    continue
-                answers.add((what, min(answer[0], 20)))
-                self.answers(what, told, answer)
+    def compared(self, told, found):
+        """Answers are as the slow and plain reading says; notes them in found."""
+        if len(told) > 512:
+            return
         for what in EACH:
-            self.assertGreater(len([found for found, length in answers if found == what]), 8, answers)
+            try:
+                answer = SlowTalk(told).way(what)
+            except TooMany:
+                continue
+            found.setdefault(what, set()).add(min(answer[0], 20))
+            self.answers(what, told, answer)
+
+    def test_terms_that_look_alike(self):
+        found = {}
+        for seed in range(700):
+            self.compared(Chance(random.Random(seed)).talk(), found)
+        for what in EACH:
+            self.assertGreater(len(found[what]), 8, found)
+
+    def test_names_that_are_passed_on(self):
+        found = {}
+        for seed in range(700):
+            self.compared(Chance(random.Random(seed)).passing_talk(), found)
+        self.assertGreater(len(found[WRONG_END]), 12, found)
+        self.assertGreater(len(found[ALL_DONE]), 12, found)
 
 
 if __name__ == "__main__":
