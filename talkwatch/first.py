@@ -48,10 +48,15 @@ def least_limits(search):
     most = reach.how_far()
     rows = [row for row in limits_to_try(scene, search.what) if is_within(row, most)]
     found = []
+    answers = {}
     for limits in sorted(rows, key=sum):
         if len(found) > 0 and sum(limits) > sum(found[0]):
             return found
-        if search.has_way(Aim(limits, None, None), EVERY_CHOICE):
+        # Parts with the same events may change places, so it needn't be asked again.
+        key = tuple(sorted(zip(scene.twins, limits)))
+        if key not in answers:
+            answers[key] = search.has_way(Aim(limits, None, None), EVERY_CHOICE)
+        if answers[key]:
             found.append(limits)
     return found
 

@@ -25,6 +25,8 @@ class Scene:
         self.first_knowledge.settle(EVERY_CHOICE)
         self.parts = [self.set_part(part, events) for part, events in enumerate(talk.parts)]
         self.secrets = [self.terms.put(term, 0) for term in talk.secrets]
+        # For each part the first that has the same events.
+        self.twins = [talk.parts.index(events) for events in talk.parts]
 
     def set_part(self, part, told):
         events = []
